@@ -1,0 +1,113 @@
+"""The interface of DOC.md, and those rules of LANGUAGE.md that a look at the files can tell."""
+
+import ast
+import doctest
+import importlib
+import inspect
+import pathlib
+import unittest
+
+FOLDER = pathlib.Path(__file__).resolve().parent.parent / "tabletalk"
+
+# The functions of the interface with their arguments, by the file that defines them.
+INTERFACE = {
+    "tables": {"is_scope": "value", "is_table": "values scope value", "is_message": "values some value"},
+    "joins": {
+        "as_message": "values scope table",
+        "project": "values some message kept",
+        "join": "values some message others other",
+        "early": "values some message others other kept",
+        "restrict": "values some message variable value",
+        "total": "values some message",
+    },
+    "solutions": {
+        "is_graph": "value",
+        "are_tables": "graph value",
+        "variables": "graph",
+        "count_solutions": "graph tables",
+        "nth_solution": "graph tables index",
+        "index_of_solution": "graph tables row",
+        "rejecting": "graph tables row",
+    },
+}
+LIBRARY = {"heapq", "math", "itertools", "collections"}
+
+
+def files():
+    return sorted(FOLDER.rglob("*.py"))
+
+
+def trees():
+    return [(path.name, ast.parse(path.read_text(encoding="utf-8"))) for path in files()]
+
+
+class InterfaceTest(unittest.TestCase):
+    def test_functions_with_their_arguments(self):
+        for name, functions in INTERFACE.items():
+            module = importlib.import_module("tabletalk." + name)
+            for word, arguments in functions.items():
+                function = getattr(module, word)
+                self.assertEqual(arguments.split(), list(inspect.signature(function).parameters), word)
+                self.assertEqual("tabletalk." + name, function.__module__, word)
+
+    def test_arguments_by_keyword(self):
+        from tabletalk.joins import project
+        self.assertEqual((((), 1, 2),), project(kept=(), message=(((0,), 1, 2),), some=(0,), values=2))
+
+
+class ReadmeTest(unittest.TestCase):
+    def test_examples(self):
+        told = doctest.testfile(str(FOLDER.parent / "README.md"), module_relative=False, encoding="utf-8")
+        self.assertEqual(0, told.failed)
+        self.assertLess(0, told.attempted)
+
+
+class LanguageTest(unittest.TestCase):
+    def test_nothing_else_is_in_the_folder(self):
+        for path in FOLDER.rglob("*"):
+            if "__pycache__" not in path.parts:
+                self.assertTrue(path.is_dir() or path.suffix == ".py", path)
+
+    def test_sizes_and_characters(self):
+        for path in files():
+            text = path.read_bytes().decode("ascii")
+            self.assertTrue(all(sign == "\n" or " " <= sign <= "~" for sign in text), path)
+            lines = text.split("\n")
+            self.assertLess(len(lines), 400, path)
+            self.assertLessEqual(max(len(line) for line in lines), 120, path)
+
+    def test_functions_have_at_most_40_lines(self):
+        for name, tree in trees():
+            for node in ast.walk(tree):
+                if isinstance(node, ast.FunctionDef):
+                    self.assertLessEqual(node.end_lineno - node.lineno + 1, 40, (name, node.name))
+
+    def test_imports(self):
+        for name, tree in trees():
+            for node in ast.walk(tree):
+                self.assertNotIsInstance(node, ast.Import, name)
+                if isinstance(node, ast.ImportFrom):
+                    self.assertEqual(0, node.level, name)
+                    inside = node.module.startswith("tabletalk.")
+                    self.assertTrue(inside or node.module in LIBRARY, (name, node.module))
+                    if inside:
+                        self.assert_defined(node)
+
+    def assert_defined(self, node):
+        """Each imported name is defined in the very file that the import names."""
+        tree = ast.parse((FOLDER / (node.module.split(".")[1] + ".py")).read_text(encoding="utf-8"))
+        defined = {one.name for one in tree.body if isinstance(one, (ast.FunctionDef, ast.ClassDef))}
+        defined |= {target.id for one in tree.body if isinstance(one, ast.Assign) for target in one.targets}
+        for alias in node.names:
+            self.assertIn(alias.name, defined, node.module)
+
+    def test_no_state_at_module_level(self):
+        for name, tree in trees():
+            for node in tree.body:
+                plain = (ast.Assign, ast.FunctionDef, ast.ClassDef, ast.ImportFrom)
+                docstring = isinstance(node, ast.Expr) and isinstance(node.value, ast.Constant)
+                self.assertTrue(docstring or isinstance(node, plain), (name, node.lineno))
+
+
+if __name__ == "__main__":
+    unittest.main()
