@@ -6,7 +6,8 @@ import unittest
 from tabletalk.errors import BadValue, NotPossible, TooLarge
 from tabletalk.joins import as_message, early, join, project, restrict, total
 from tabletalk.tables import is_message
-from tests.support import STRANGE, Case, Numbers, all_rows, all_some, restricted, sample_message, sample_table
+from tests.support import (STRANGE, Case, Numbers, all_rows, all_some, plain_projection, restricted, sample_message,
+                           sample_table, some_of)
 
 TABLE = (((0, 0), 3), ((0, 1), 1), ((1, 1), 5))
 ONE = (((0, 0), 1, 3), ((0, 1), 1, 1), ((1, 1), 1, 5))
@@ -27,18 +28,6 @@ WRONG_MESSAGES = STRANGE + [
     (((0, True), 1, 1),), (((0, 1), 1, 1), ((0, 0), 1, 1)), (((0, 0), 1, 1), ((0, 0), 2, 1))]
 
 
-def message_of(pairs):
-    """The message in which rows, each with a count and a cost, are gathered, by the words of the document."""
-    pairs = list(pairs)
-    rows = sorted({row for row, _, _ in pairs})
-    return tuple((row, sum(count for same, count, _ in pairs if same == row),
-                  min(cost for same, _, cost in pairs if same == row)) for row in rows)
-
-
-def plain_projection(some, message, kept):
-    return message_of((restricted(some, row, kept), count, least) for row, count, least in message)
-
-
 def plain_join(values, some, message, others, other):
     """The join by looking at each row of the variables of both."""
     both = tuple(sorted(set(some) | set(others)))
@@ -50,10 +39,6 @@ def plain_join(values, some, message, others, other):
         if here and there:
             found.append((row, here[0] * there[0], here[1] + there[1]))
     return tuple(found)
-
-
-def some_of(some):
-    return [kept for many in range(len(some) + 1) for kept in itertools.combinations(some, many)]
 
 
 def sample_pairs(many):

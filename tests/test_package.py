@@ -29,6 +29,26 @@ INTERFACE = {
         "index_of_solution": "graph tables row",
         "rejecting": "graph tables row",
     },
+    "projections": {"projection": "graph tables some", "part_projection": "graph tables nodes some"},
+    "graphs": {
+        "shared_variables": "graph one other",
+        "told_way": "graph one other",
+        "is_junction_tree": "graph",
+        "two_counts": "graph",
+    },
+    "defects": {
+        "defect": "graph",
+        "accepts_defect": "graph value",
+        "good_order": "graph",
+        "accepts_order": "graph value",
+    },
+    "messages": {
+        "are_messages": "graph value",
+        "required_message": "graph tables messages one other",
+        "inconsistent": "graph tables messages",
+        "belief": "graph tables messages node",
+        "total": "graph messages edge",
+    },
 }
 LIBRARY = {"heapq", "math", "itertools", "collections"}
 

@@ -5,59 +5,15 @@ import unittest
 
 from tabletalk.solutions import (are_tables, count_solutions, index_of_solution, is_graph, nth_solution, rejecting,
                                  variables)
-from tests.support import STRANGE, Case, Numbers, all_rows, all_some, restricted, sample_graph, sample_tables
+from tests.support import (BARE, GRAPH, LARGE, STRANGE, TABLES, WRONG_GRAPHS, WRONG_TABLES, Case, all_rows, all_some,
+                           full_tables, plain_solutions, restricted, samples)
 
-GRAPH = (2, ((0,), (0, 1), (1,)), ((0, 1), (1, 2)))
-TABLES = ((((0,), 1), ((1,), 0)), (((0, 0), 0), ((0, 1), 2), ((1, 1), 5)), (((1,), 0),))
-BARE = (2, ((), ()), ((0, 1),))
-LARGE = (3, ((0, 1, 2), (1, 2, 3), (2, 3, 4), (3, 4, 5), (0, 5)), tuple(itertools.combinations(range(5), 2)))
-
-WRONG_GRAPHS = STRANGE + [
-    0, (), list(GRAPH), GRAPH[:2], GRAPH + ((),), (1, ((0,),), ()), (4, ((0,),), ()), (True, ((0,),), ()),
-    (2.0, ((0,),), ()), ("2", ((0,),), ()), (2, (), ()), (2, ((),) * 6, ()), (2, [(0,)], ()), (2, ([0],), ()),
-    (2, (0,), ()), (2, ((6,),), ()), (2, ((-1,),), ()), (2, ((1, 0),), ()), (2, ((1, 1),), ()),
-    (2, ((0, 1, 2, 3),), ()), (2, ((False,),), ()), (2, ((0,),), None), (2, ((0,),), []), (2, ((0,),), ((0, 0),)),
-    (2, ((0,),), ((0, 1),)), (2, ((), ()), ((1, 0),)), (2, ((), ()), ((0, 1), (0, 1))), (2, ((), ()), [(0, 1)]),
-    (2, ((), ()), ([0, 1],)), (2, ((), ()), ((0,),)), (2, ((), ()), ((0, 1, 1),)), (2, ((), ()), ((0, True),)),
-    (2, ((), ()), ((False, 1),)), (2, ((), ()), ((0, 2),)), (2, ((), ()), ((-1, 1),)), (2, ((), ()), (0, 1)),
-    (2, ((), ()), ((0, 1.0),)), (2, ((), (), ()), ((0, 2), (0, 1))), (2, ((), (), ()), ((1, 2), (0, 2))),
-    (2, None, ()), (2, "01", ()), (2, ((0,), None), ())]
-WRONG_TABLES = STRANGE + [
-    0, (), list(TABLES), TABLES[:2], TABLES + ((),), (TABLES[1], TABLES[0], TABLES[2]), ((), (), ()) * 2, ((), (), []),
-    ((), (), None), ((), (), (((2,), 0),)), ((), (), (((1,), 101),)), ((), (), (((1,), -1),)),
-    ((), (), (((1,), True),)), ((), (), (((True,), 1),)), ((), (), (([1], 1),)), ((), (), ([(1,), 1],)),
-    ((), (), (((1, 1), 0),)), ((), (), (((), 0),)), ((), (), (((1,), 0), ((0,), 0))),
-    ((), (), (((0,), 0), ((0,), 1))), ((), (), (((1,), 0, 0),)), ((((0,), 1.0),), (), ()),
-    ((((0, 0), 1),), (), ()), ((), (((0,), 1),), ())]
 WRONG_ROWS = STRANGE + [0, (), [0, 1], (0,), (0, 1, 0), (0, 2), (2, 0), (-1, 0), (0, True), (False, 1), (0, 1.0), "01",
                         ((0, 1),), (0, "1")]
 
 
-def plain_solutions(graph, tables):
-    """The pairs of the rows and the costs of all solutions, by looking at each full row."""
-    some = sorted({variable for scope in graph[1] for variable in scope})
-    found = []
-    for row in all_rows(graph[0], some):
-        parts = [restricted(some, row, scope) for scope in graph[1]]
-        if all(part in dict(table) for part, table in zip(parts, tables)):
-            found.append((row, sum(dict(table)[part] for part, table in zip(parts, tables))))
-    return found
-
-
 def told_solutions(graph, tables):
     return [nth_solution(graph, tables, index) for index in range(count_solutions(graph, tables))]
-
-
-def samples(many):
-    """Graphs with tables, most of them with solutions."""
-    numbers = Numbers(11)
-    for _ in range(many):
-        graph = sample_graph(numbers)
-        yield graph, sample_tables(numbers, graph)
-
-
-def full_tables(graph, cost):
-    return tuple(tuple((row, cost) for row in all_rows(graph[0], scope)) for scope in graph[1])
 
 
 class GraphTest(Case):
