@@ -23,9 +23,7 @@ def told_way(graph, one, other):
 def is_junction_tree(graph):
     """True if the graph is a junction tree."""
     require(is_graph(graph), "graph")
-    if first_cycle(graph) is not None or not hang_together(graph, all_nodes(graph)):
-        return False
-    return all([hang_together(graph, nodes_with(graph, variable)) for variable in all_variables(graph)])
+    return is_join_tree(graph)
 
 
 def two_counts(graph):
@@ -42,6 +40,19 @@ def check_two_nodes(graph, one, other):
     require(is_graph(graph), "graph")
     require(is_node(graph, one), "one")
     require(is_node(graph, other), "other")
+
+
+def check_neighbours(graph, one, other):
+    """Raises BadValue unless these are a node of the graph and a neighbour of it."""
+    require(is_node(graph, one), "one")
+    require(is_node(graph, other) and are_neighbours(graph, one, other), "other")
+
+
+def is_join_tree(graph):
+    """What is_junction_tree returns, without checks."""
+    if first_cycle(graph) is not None or not hang_together(graph, all_nodes(graph)):
+        return False
+    return all([hang_together(graph, nodes_with(graph, variable)) for variable in all_variables(graph)])
 
 
 def is_node(graph, value):

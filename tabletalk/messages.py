@@ -1,7 +1,7 @@
 """Messages of a graph: which are required, which nodes are consistent, what nodes believe, and totals of edges."""
 
 from tabletalk.checks import is_integer, is_tuple, require
-from tabletalk.graphs import are_neighbours, is_node, neighbours, shared
+from tabletalk.graphs import check_neighbours, is_node, neighbours, shared
 from tabletalk.joins import joined, projected, told
 from tabletalk.solutions import check_tables, is_graph
 from tabletalk.tables import is_message
@@ -16,8 +16,7 @@ def are_messages(graph, value):
 def required_message(graph, tables, messages, one, other):
     """The required message of the node one to its neighbour other."""
     check_messages(graph, tables, messages)
-    require(is_node(graph, one), "one")
-    require(is_node(graph, other) and are_neighbours(graph, one, other), "other")
+    check_neighbours(graph, one, other)
     return required(graph, tables, messages, one, other)
 
 
@@ -35,7 +34,7 @@ def belief(graph, tables, messages, node):
     """The belief of the node: the rows of its table that all its neighbours leave."""
     check_messages(graph, tables, messages)
     require(is_node(graph, node), "node")
-    return left(graph, tables, messages, node, neighbours(graph, node))
+    return believed(graph, tables, messages, node)
 
 
 def total(graph, messages, edge):
@@ -78,6 +77,11 @@ def required(graph, tables, messages, one, other):
     senders = [node for node in neighbours(graph, one) if node != other]
     rows = left(graph, tables, messages, one, senders)
     return projected(graph[1][one], rows, shared(graph, one, other))
+
+
+def believed(graph, tables, messages, node):
+    """What belief returns, without checks."""
+    return left(graph, tables, messages, node, neighbours(graph, node))
 
 
 def left(graph, tables, messages, node, senders):

@@ -68,3 +68,8 @@ def is_message(values, some, value):
 def part(some, row, kept):
     """The part of a row of some variables for kept ones of them."""
     return tuple([row[some.index(variable)] for variable in kept])
+
+
+def zeros(some):
+    """The row of some variables that has only zeros."""
+    return tuple([0 for _ in some])

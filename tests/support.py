@@ -5,7 +5,7 @@ import functools
 import itertools
 import unittest
 
-from tabletalk.errors import BadValue
+from tabletalk.errors import BadValue, NotPossible
 
 # Values of the wrong kind for each argument of the program that is a tuple or an integer.
 STRANGE = [None, "", "0", b"", 0.0, 2.0, True, False, [], {}, set(), object, (None,), ("0",), ([],), (0.0,), (True,)]
@@ -32,6 +32,20 @@ WRONG_TABLES = STRANGE + [
     ((), (), (((1, 1), 0),)), ((), (), (((), 0),)), ((), (), (((1,), 0), ((0,), 0))),
     ((), (), (((0,), 0), ((0,), 1))), ((), (), (((1,), 0, 0),)), ((((0,), 1.0),), (), ()),
     ((((0, 0), 1),), (), ()), ((), (((0,), 1),), ())]
+# The messages with which all nodes of the example are consistent.
+TOLD = ((((0,), 1, 1), ((1,), 1, 0)), (((0,), 1, 2), ((1,), 1, 5)), (((0,), 1, 1), ((1,), 2, 3)), (((1,), 1, 0),))
+LESS = ((((0,), 1, 1),),) + TOLD[1:]
+NONE = ((),) * 4
+WRONG_MESSAGES = STRANGE + [
+    0, (), list(TOLD), TOLD[:3], TOLD + ((),), NONE[:2], TOLD[:3] + ([],), TOLD[:3] + (None,), TOLD[:3] + (0,),
+    TOLD[:3] + (list(TOLD[3]),), [()] * 4, {}]
+WRONG_MESSAGES += [TOLD[:at] + (message,) + TOLD[at + 1:] for at in (0, 3) for message in (
+    (((0,), 0, 1),), (((0,), 1000001, 1),), (((0,), 1, -1),), (((0,), 1, 10001),), (((0,), True, 1),),
+    (((0,), 1, True),), (((0,), 1, False),), (((True,), 1, 1),), (((2,), 1, 1),), (((-1,), 1, 1),), (((), 1, 1),),
+    (((0, 0), 1, 1),), (([0], 1, 1),), ([(0,), 1, 1],), (((0,), 1),), (((0,), 1, 1, 1),), ((0, 1, 1),),
+    (((0,), 1.0, 1),), (((0,), 1, "1"),), (((0,), None, 1),), (((1,), 1, 1), ((0,), 1, 1)),
+    (((0,), 1, 1), ((0,), 2, 1)), (((0,), 1, 1), ((0,), 1, 1)), ((0,), 1, 1))]
+WRONG_NODES = STRANGE + [3, -1, 5, (0,), [0], 1.0, "1"]
 
 
 def all_rows(values, some):
@@ -132,6 +146,14 @@ def sample_messages(numbers, graph):
                  for edge in graph[2] for one, other in (edge, edge[::-1]))
 
 
+def message_samples(many):
+    """Graphs with tables and messages that nobody computed."""
+    numbers = Numbers(41)
+    for _ in range(many):
+        for graph in (sample_graph(numbers), sample_tree(numbers)):
+            yield graph, sample_tables(numbers, graph), sample_messages(numbers, graph)
+
+
 def sample_tree(numbers):
     """A junction tree: each node but the first one has some variables of a node before it, and some that are new."""
     many = 1 + numbers.below(5)
@@ -215,6 +237,62 @@ def plain_is_junction_tree(graph):
             and all(plain_hang_together(graph, plain_nodes_with(graph, variable)) for variable in range(6)))
 
 
+def renumbered(graph, names):
+    """The graph with the nodes in another sequence: node k is called names[k]."""
+    scopes = tuple(graph[1][names.index(node)] for node in range(len(names)))
+    edges = sorted(tuple(sorted((names[one], names[other]))) for one, other in graph[2])
+    return graph[0], scopes, tuple(edges)
+
+
+def renamed(graph, names):
+    """The graph with its variables renamed: the variable k is called names[k]."""
+    return graph[0], tuple(tuple(sorted(names[variable] for variable in scope)) for scope in graph[1]), graph[2]
+
+
+def directions(graph):
+    return [pair for edge in graph[2] for pair in (edge, edge[::-1])]
+
+
+def plain_left(graph, tables, messages, node, senders):
+    """The rows of the table of the node that these neighbours leave, by the words of the document."""
+    sent = dict(zip(directions(graph), messages))
+    found = []
+    for row, cost in tables[node]:
+        told = []
+        for sender in senders:
+            part = restricted(graph[1][node], row, plain_shared(graph, sender, node))
+            told.append({row: (count, least) for row, count, least in sent[sender, node]}.get(part))
+        if None not in told:
+            count = 1
+            for factor, _ in told:
+                count *= factor
+            found.append((row, count, cost + sum(least for _, least in told)))
+    return tuple(found)
+
+
+def plain_neighbours(graph, node):
+    return [other for other in range(len(graph[1])) if is_edge_of(graph, node, other)]
+
+
+def plain_required(graph, tables, messages, one, other):
+    senders = [node for node in plain_neighbours(graph, one) if node != other]
+    some = plain_shared(graph, one, other)
+    rows = plain_left(graph, tables, messages, one, senders)
+    return message_of((restricted(graph[1][one], row, some), count, least) for row, count, least in rows)
+
+
+def plain_round(graph, tables, messages):
+    return tuple(plain_required(graph, tables, messages, *pair) for pair in directions(graph))
+
+
+def plain_computed(graph, tables):
+    """The computed messages, by the words of the document."""
+    messages = ((),) * len(directions(graph))
+    for _ in graph[1]:
+        messages = plain_round(graph, tables, messages)
+    return messages
+
+
 class Case(unittest.TestCase):
     def assert_same(self, one, other):
         """Equal, and of the same kinds throughout: 1 is not True, a list is no tuple."""
@@ -227,6 +305,9 @@ class Case(unittest.TestCase):
         self.assertIs(error, caught.exception.__class__, arguments)
         self.assertEqual(word, getattr(caught.exception, attribute), arguments)
         self.assert_same(before, arguments)
+
+    def assert_not_possible(self, why, function, *arguments):
+        self.assert_raises_with(NotPossible, "why", why, function, *arguments)
 
     def assert_refuses(self, function, good, wrong):
         """Each wrong value is refused by its name, with right and with wrong values for the arguments behind it.

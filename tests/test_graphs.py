@@ -3,30 +3,18 @@
 import itertools
 
 from tabletalk.graphs import is_junction_tree, shared_variables, told_way, two_counts
-from tests.support import (BARE, GRAPH, LARGE, STRANGE, WRONG_GRAPHS, Case, Numbers, many_graphs, plain_cycles,
-                           plain_is_junction_tree, plain_nodes_with, plain_shared, plain_ways, sample_tree, shuffled)
+from tests.support import (BARE, GRAPH, LARGE, WRONG_GRAPHS, WRONG_NODES, Case, Numbers, many_graphs, plain_cycles,
+                           plain_is_junction_tree, plain_nodes_with, plain_shared, plain_ways, renamed, renumbered,
+                           sample_tree, shuffled)
 
 ROW = (2, ((0, 1), (1, 2), (0, 2)), ((0, 1), (1, 2)))
 RING = (2, ((0, 1), (1, 2), (0, 2)), ((0, 1), (0, 2), (1, 2)))
-WRONG_NODES = STRANGE + [3, -1, 5, (0,), [0], 1.0, "1"]
 
 
 def trees(many):
     numbers = Numbers(33)
     for _ in range(many):
         yield sample_tree(numbers)
-
-
-def renumbered(graph, names):
-    """The graph with the nodes in another sequence: node k is called names[k]."""
-    scopes = tuple(graph[1][names.index(node)] for node in range(len(names)))
-    edges = sorted(tuple(sorted((names[one], names[other]))) for one, other in graph[2])
-    return graph[0], scopes, tuple(edges)
-
-
-def renamed(graph, names):
-    """The graph with its variables renamed: the variable k is called names[k]."""
-    return graph[0], tuple(tuple(sorted(names[variable] for variable in scope)) for scope in graph[1]), graph[2]
 
 
 class SharedVariablesTest(Case):

@@ -4,58 +4,12 @@ import itertools
 
 from tabletalk.joins import project
 from tabletalk.messages import are_messages, belief, inconsistent, required_message, total
-from tests.support import (BARE, GRAPH, LARGE, STRANGE, TABLES, WRONG_GRAPHS, WRONG_TABLES, Case, Numbers, full_tables,
-                           is_edge_of, message_of, plain_shared, restricted, sample_graph, sample_messages,
-                           sample_tables, sample_tree)
+from tests.support import (BARE, GRAPH, LARGE, LESS, NONE, STRANGE, TABLES, TOLD, WRONG_GRAPHS, WRONG_MESSAGES,
+                           WRONG_NODES, WRONG_TABLES, Case, directions, full_tables, message_samples, plain_left,
+                           plain_neighbours, plain_required, plain_shared)
 
-# The messages with which all nodes of the example are consistent.
-TOLD = ((((0,), 1, 1), ((1,), 1, 0)), (((0,), 1, 2), ((1,), 1, 5)), (((0,), 1, 1), ((1,), 2, 3)), (((1,), 1, 0),))
-LESS = ((((0,), 1, 1),),) + TOLD[1:]
-NONE = ((),) * 4
 RING = (2, ((0,), (0,), (0,)), ((0, 1), (0, 2), (1, 2)))
 FULL = (3, ((0, 1, 2),) * 5, tuple(itertools.combinations(range(5), 2)))
-WRONG_MESSAGES = STRANGE + [
-    0, (), list(TOLD), TOLD[:3], TOLD + ((),), NONE[:2], TOLD[:3] + ([],), TOLD[:3] + (None,), TOLD[:3] + (0,),
-    TOLD[:3] + (list(TOLD[3]),), [()] * 4, {}]
-WRONG_MESSAGES += [TOLD[:at] + (message,) + TOLD[at + 1:] for at in (0, 3) for message in (
-    (((0,), 0, 1),), (((0,), 1000001, 1),), (((0,), 1, -1),), (((0,), 1, 10001),), (((0,), True, 1),),
-    (((0,), 1, True),), (((0,), 1, False),), (((True,), 1, 1),), (((2,), 1, 1),), (((-1,), 1, 1),), (((), 1, 1),),
-    (((0, 0), 1, 1),), (([0], 1, 1),), ([(0,), 1, 1],), (((0,), 1),), (((0,), 1, 1, 1),), ((0, 1, 1),),
-    (((0,), 1.0, 1),), (((0,), 1, "1"),), (((0,), None, 1),), (((1,), 1, 1), ((0,), 1, 1)),
-    (((0,), 1, 1), ((0,), 2, 1)), (((0,), 1, 1), ((0,), 1, 1)), ((0,), 1, 1))]
-WRONG_NODES = STRANGE + [3, -1, 5, (0,), [0], 1.0, "1"]
-
-
-def directions(graph):
-    return [pair for edge in graph[2] for pair in (edge, edge[::-1])]
-
-
-def plain_left(graph, tables, messages, node, senders):
-    """The rows of the table of the node that these neighbours leave, by the words of the document."""
-    sent = dict(zip(directions(graph), messages))
-    found = []
-    for row, cost in tables[node]:
-        told = []
-        for sender in senders:
-            part = restricted(graph[1][node], row, plain_shared(graph, sender, node))
-            told.append({row: (count, least) for row, count, least in sent[sender, node]}.get(part))
-        if None not in told:
-            count = 1
-            for factor, _ in told:
-                count *= factor
-            found.append((row, count, cost + sum(least for _, least in told)))
-    return tuple(found)
-
-
-def plain_neighbours(graph, node):
-    return [other for other in range(len(graph[1])) if is_edge_of(graph, node, other)]
-
-
-def plain_required(graph, tables, messages, one, other):
-    senders = [node for node in plain_neighbours(graph, one) if node != other]
-    some = plain_shared(graph, one, other)
-    rows = plain_left(graph, tables, messages, one, senders)
-    return message_of((restricted(graph[1][one], row, some), count, least) for row, count, least in rows)
 
 
 def plain_total(message, other):
@@ -64,14 +18,6 @@ def plain_total(message, other):
     if not both:
         return None
     return sum(here[row][0] * there[row][0] for row in both), min(here[row][1] + there[row][1] for row in both)
-
-
-def samples(many):
-    """Graphs with tables and messages that nobody computed."""
-    numbers = Numbers(41)
-    for _ in range(many):
-        for graph in (sample_graph(numbers), sample_tree(numbers)):
-            yield graph, sample_tables(numbers, graph), sample_messages(numbers, graph)
 
 
 def settled(graph, tables, messages):
@@ -91,7 +37,7 @@ class AreMessagesTest(Case):
         self.assertIs(True, are_messages((3, ((0, 1), (1, 2)), ((0, 1),)), ((((2,), 1, 1),), (((0,), 4, 4),))))
 
     def test_samples(self):
-        for graph, _, messages in samples(60):
+        for graph, _, messages in message_samples(60):
             self.assertIs(True, are_messages(graph, messages))
             self.assertIs(True, are_messages(graph, ((),) * len(messages)))
             self.assertIs(False, are_messages(graph, messages + ((),)))
@@ -173,7 +119,7 @@ class RequiredMessageTest(Case):
 
     def test_by_the_words_of_the_document(self):
         rows = 0
-        for graph, tables, messages in samples(150):
+        for graph, tables, messages in message_samples(150):
             for pair in directions(graph):
                 told = required_message(graph, tables, messages, *pair)
                 self.assert_same(plain_required(graph, tables, messages, *pair), told)
@@ -242,7 +188,7 @@ class InconsistentTest(Case):
 
     def test_by_the_words_of_the_document(self):
         found = 0
-        for graph, tables, messages in samples(100):
+        for graph, tables, messages in message_samples(100):
             for told in (messages, settled(graph, tables, ((),) * len(messages))):
                 wrong = sorted(pair for pair, message in zip(directions(graph), told)
                                if plain_required(graph, tables, told, *pair) != message)
@@ -283,7 +229,7 @@ class BeliefTest(Case):
 
     def test_by_the_words_of_the_document(self):
         rows = 0
-        for graph, tables, messages in samples(150):
+        for graph, tables, messages in message_samples(150):
             for node in range(len(graph[1])):
                 told = belief(graph, tables, messages, node)
                 self.assert_same(plain_left(graph, tables, messages, node, plain_neighbours(graph, node)), told)
@@ -314,7 +260,7 @@ class NeighboursTest(Case):
 
     def test_all_nodes_consistent(self):
         rows = 0
-        for graph, tables, messages in samples(100):
+        for graph, tables, messages in message_samples(100):
             told = settled(graph, tables, ((),) * len(messages))
             self.assertEqual((), inconsistent(graph, tables, told))
             for edge in graph[2]:
@@ -323,7 +269,7 @@ class NeighboursTest(Case):
 
     def test_these_two_consistent(self):
         rows = 0
-        for graph, tables, messages in samples(100):
+        for graph, tables, messages in message_samples(100):
             for edge in graph[2]:
                 sent = dict(zip(directions(graph), messages))
                 # First the two tell each other what the others tell them, and then the others what they were told.
@@ -365,7 +311,7 @@ class TotalTest(Case):
 
     def test_by_the_words_of_the_document(self):
         found = set()
-        for graph, _, messages in samples(150):
+        for graph, _, messages in message_samples(150):
             for edge in range(len(graph[2])):
                 told = plain_total(messages[2 * edge], messages[2 * edge + 1])
                 self.assert_same(told, total(graph, messages, edge))

@@ -49,6 +49,21 @@ INTERFACE = {
         "belief": "graph tables messages node",
         "total": "graph messages edge",
     },
+    "rounds": {"computed_messages": "graph tables", "count_rounds": "graph tables"},
+    "trust": {
+        "is_trusted": "graph",
+        "deceived": "graph tables messages",
+        "misjudged": "graph tables messages node",
+        "told_counterexample": "graph",
+        "is_counterexample": "graph value",
+    },
+    "silence": {"silent": "graph", "other_messages": "graph"},
+    "costs": {
+        "value_counts": "graph tables variable",
+        "cheapest": "graph tables many",
+        "excesses": "graph tables node",
+        "moved": "graph tables one other row amount",
+    },
 }
 LIBRARY = {"heapq", "math", "itertools", "collections"}
 
