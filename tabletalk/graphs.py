@@ -1,6 +1,7 @@
 """Neighbours, shared variables and ways in a graph, and whether it is a junction tree."""
 
 from tabletalk.checks import is_integer, require
+from tabletalk.errors import NotPossible
 from tabletalk.solutions import all_variables, is_graph
 
 
@@ -46,6 +47,12 @@ def check_neighbours(graph, one, other):
     """Raises BadValue unless these are a node of the graph and a neighbour of it."""
     require(is_node(graph, one), "one")
     require(is_node(graph, other) and are_neighbours(graph, one, other), "other")
+
+
+def check_tree(graph):
+    """Raises BadValue unless this is a graph, and NotPossible unless it is a junction tree."""
+    if not is_junction_tree(graph):
+        raise NotPossible("tree")
 
 
 def is_join_tree(graph):

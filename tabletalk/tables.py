@@ -73,3 +73,11 @@ def part(some, row, kept):
 def zeros(some):
     """The row of some variables that has only zeros."""
     return tuple([0 for _ in some])
+
+
+def all_rows(values, some):
+    """All rows of some variables, ascending."""
+    found = [()]
+    for _ in some:
+        found = [row + (value,) for row in found for value in range(values)]
+    return found

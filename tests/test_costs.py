@@ -197,7 +197,7 @@ class MovedTest(Case):
                 change = amount if at else -amount
                 if 0 <= price + change <= 100:
                     told = moved(PAIR, tables, 0, 1, (0,), amount)
-                    self.assert_same(tuple((((0, 0), price + change),) if node == at else () for node in range(2)), told)
+                    self.assert_same(tuple((((0, 0), price + change),) if node == at else () for node in (0, 1)), told)
                 else:
                     self.assert_raises_with_cost(PAIR, tables, 0, 1, (0,), amount)
                 self.assert_same(tables, moved(PAIR, tables, 0, 1, (1,), amount))

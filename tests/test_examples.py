@@ -87,7 +87,8 @@ True
 >>> is_trusted((2, ((0,), (0, 1), (1,)), ((0, 1), (1, 2)))), told_counterexample((2, ((),), ())) is None
 (True, True)
 """,
-    "costs": """
+    "bounds and costs": """
+>>> from tabletalk.bounds import accepts_bound, accepts_cheapest, accepts_totals, told_potentials, totals_evidence
 >>> from tabletalk.costs import cheapest, excesses, moved, value_counts
 >>> graph = (2, ((0, 1), (0, 2)), ((0, 1),))
 >>> tables = ((((0, 0), 3), ((0, 1), 1), ((1, 0), 0)), (((0, 1), 2), ((1, 0), 5), ((1, 1), 4)))
@@ -95,6 +96,53 @@ True
 ([((0, 1, 1), 3), ((1, 0, 1), 4)], ((3, 4), (1, 3)), (((0, 0), 2), ((0, 1), 0), ((1, 0), 1)))
 >>> moved(graph, tables, 1, 0, (1,), 4)
 ((((0, 0), 3), ((0, 1), 1), ((1, 0), 4)), (((0, 1), 2), ((1, 0), 1), ((1, 1), 0)))
+>>> told = totals_evidence(graph, tables)
+>>> accepts_totals(graph, tables, 4, 3, told), accepts_totals(graph, tables, 4, 2, told)
+(True, False)
+>>> value = ((((0,), 2), ((1,), 4)),)
+>>> accepts_bound(graph, tables, 3, value), accepts_bound(graph, tables, 4, value)
+(True, False)
+>>> accepts_bound(graph, tables, 2, ((),))
+True
+>>> told = told_potentials(graph, tables)
+>>> accepts_cheapest(graph, tables, (0, 1, 1), told), accepts_cheapest(graph, tables, (1, 0, 1), told)
+(True, False)
+""",
+    "late messages": """
+>>> from tabletalk.late import beliefs, effects, is_settled, on_the_way, tables_behind
+>>> graph = (2, ((0,), (0, 1), (1,)), ((0, 1), (1, 2)))
+>>> tables = ((((0,), 1),), (((0, 1), 2),), (((1,), 0),))
+>>> on_the_way(graph, tables, (("remove", 2, (1,)),)), is_settled(graph, tables, (("remove", 2, (1,)),))
+(((2, 1, 1),), False)
+>>> actions = (("remove", 2, (1,)), ("deliver", 0))
+>>> beliefs(graph, tables, actions), on_the_way(graph, tables, actions)
+(((((0,), 1, 3),), (), ()), ((1, 0, 1),))
+>>> late = (("remove", 2, (1,)), ("set", 2, (1,), 4), ("deliver", 1), ("deliver", 0), ("settle",))
+>>> effects(graph, tables, late), is_settled(graph, tables, late), beliefs(graph, tables, late)
+((1, 1, 1, 0, 1), True, ((((0,), 1, 7),), (((0, 1), 1, 7),), (((1,), 1, 7),)))
+>>> tables_behind(graph, tables, late)[2], effects(graph, tables, (("remove", 2, (1,)), ("lose", 0), ("settle",)))
+((((1,), 4),), (1, 0, 2))
+""",
+    "edges and removals": """
+>>> from tabletalk.edges import accepts_additions, count_making, due_number, first_making, makes_tree, most_shared
+>>> from tabletalk.edges import shared_number, told_tree
+>>> from tabletalk.removals import accepts_removal, edge_evidence
+>>> ring = ((0, 1), (1, 2), (0, 2))
+>>> count_making(ring), first_making(ring) is None, most_shared(ring), due_number(ring)
+(0, True, 2, 3)
+>>> told_tree(ring), edge_evidence(ring)
+((((0, 1), (0, 2)), ((0, 2),)), ('stuck', ()))
+>>> row = ((0, 1), (0,), (1,))
+>>> edge_evidence(row), accepts_removal(row, ("edges", ((2, 0), (0, 1))))
+(('edges', ((1, 0), (0, 2))), True)
+>>> count_making(((0,), (1,), (2,))), first_making(row)
+(3, ((0, 1), (0, 2)))
+>>> accepts_additions(ring, ((0, 1), (1, 2)), ((1, 0),)), accepts_additions(ring, ((0, 1), (0, 2)), ((1, 0),))
+(True, False)
+>>> makes_tree(row, ((0, 1), (1, 2)))
+False
+>>> shared_number(ring, ((0, 1), (0, 2), (1, 2))), accepts_removal(ring + ((2, 5),), ("stuck", ((3, 2),)))
+(3, True)
 """,
 }
 

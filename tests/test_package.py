@@ -64,6 +64,33 @@ INTERFACE = {
         "excesses": "graph tables node",
         "moved": "graph tables one other row amount",
     },
+    "bounds": {
+        "totals_evidence": "graph tables",
+        "accepts_totals": "graph tables count least value",
+        "told_potentials": "graph tables",
+        "accepts_bound": "graph tables bound value",
+        "accepts_cheapest": "graph tables row value",
+    },
+    "late": {
+        "is_action": "graph value",
+        "tables_behind": "graph tables actions",
+        "on_the_way": "graph tables actions",
+        "effects": "graph tables actions",
+        "is_settled": "graph tables actions",
+        "beliefs": "graph tables actions",
+        "kept": "graph tables actions",
+    },
+    "edges": {
+        "makes_tree": "scopes edges",
+        "count_making": "scopes",
+        "first_making": "scopes",
+        "shared_number": "scopes edges",
+        "due_number": "scopes",
+        "most_shared": "scopes",
+        "told_tree": "scopes",
+        "accepts_additions": "scopes edges value",
+    },
+    "removals": {"edge_evidence": "scopes", "accepts_removal": "scopes value"},
 }
 LIBRARY = {"heapq", "math", "itertools", "collections"}
 
