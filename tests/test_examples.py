@@ -144,6 +144,30 @@ False
 >>> shared_number(ring, ((0, 1), (0, 2), (1, 2))), accepts_removal(ring + ((2, 5),), ("stuck", ((3, 2),)))
 (3, True)
 """,
+    "questions, verdicts and enough": """
+>>> from tabletalk.enough import is_enough, needed, smallest_enough
+>>> from tabletalk.questions import implied, possible_values, sure_values, what_if
+>>> from tabletalk.verdicts import accepts_verdict, verdict, verdict_evidence
+>>> graph = (2, ((0, 1), (1,)), ((0, 1),))
+>>> tables = ((((0, 0), 2), ((1, 1), 5)), (((1,), 1),))
+>>> sure_values(graph, tables), what_if(graph, tables, 0, 1), what_if(graph, tables, 0, 0) is None
+(((0, 1), (1, 1)), (1, 6), True)
+>>> verdict(graph, tables, 0, 1), verdict(graph, tables, 0, 0)
+('always', 'never')
+>>> both = (tables[0], (((0,), 0), ((1,), 0)))
+>>> verdict(graph, both, 0, 0)
+'sometimes'
+>>> smallest_enough(graph, tables, 1, 1), smallest_enough(graph, tables, 0, 1), needed(graph, tables, 0, 1)
+((1,), (0, 1), (0, 1))
+>>> is_enough(graph, tables, (0,), 0, 1)
+False
+>>> accepts_verdict(graph, tables, 0, 0, ("never", ("by", 1, (("no", 1), ("no", 0)))))
+True
+>>> accepts_verdict(graph, tables, 0, 0, ("never", ("no", 0)))
+False
+>>> implied(graph, both, 1, 0), possible_values(graph, (tables[0], ()), 0)
+(((0, 0), (1, 0)), ())
+""",
 }
 
 

@@ -91,6 +91,23 @@ INTERFACE = {
         "accepts_additions": "scopes edges value",
     },
     "removals": {"edge_evidence": "scopes", "accepts_removal": "scopes value"},
+    "questions": {
+        "what_if": "graph tables variable value",
+        "sure_values": "graph tables",
+        "implied": "graph tables variable value",
+        "possible_values": "graph tables variable",
+    },
+    "verdicts": {
+        "verdict": "graph tables variable value",
+        "verdict_evidence": "graph tables variable value",
+        "accepts_verdict": "graph tables variable value evidence",
+    },
+    "enough": {
+        "is_enough": "graph tables nodes variable value",
+        "smallest_enough": "graph tables variable value",
+        "needed": "graph tables variable value",
+    },
+    "scanning": {"scan": "text"},
 }
 LIBRARY = {"heapq", "math", "itertools", "collections"}
 
