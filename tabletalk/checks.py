@@ -22,6 +22,11 @@ def is_tuple(value, low, high):
     return isinstance(value, tuple) and low <= len(value) <= high
 
 
+def is_word(value, words):
+    """True if the value is one of these words."""
+    return isinstance(value, str) and value in words
+
+
 def is_ascending(items):
     """True if each item is less than the next one; the items are known to be comparable."""
     return all([one < other for one, other in zip(items, items[1:])])

@@ -1,6 +1,6 @@
 """Defects and good orders of graphs, which show whether a graph is a junction tree, and their judges."""
 
-from tabletalk.checks import is_ascending, is_integer, is_tuple, require
+from tabletalk.checks import is_ascending, is_integer, is_tuple, is_word, require
 from tabletalk.graphs import (all_nodes, are_neighbours, first_cycle, hang_together, hanging, is_junction_tree, is_near,
                               is_node, nodes_with, shared)
 from tabletalk.solutions import all_variables, is_graph
@@ -25,7 +25,7 @@ def defect(graph):
 def accepts_defect(graph, value):
     """True if the value is a defect of the graph."""
     require(is_graph(graph), "graph")
-    if not is_tuple(value, 2, 3):
+    if not is_tuple(value, 2, 3) or not is_word(value[0], ("cycle", "apart", "split")):
         return False
     word = value[0]
     if len(value) == 2:

@@ -2,7 +2,7 @@
 
 from itertools import combinations
 
-from tabletalk.checks import require
+from tabletalk.checks import is_tuple, require
 from tabletalk.graphs import all_nodes
 from tabletalk.projections import are_nodes, graph_of_nodes
 from tabletalk.questions import check_question, check_variable_value, divided
@@ -12,7 +12,7 @@ from tabletalk.solutions import all_variables, check_tables, solutions
 def is_enough(graph, tables, nodes, variable, value):
     """True if the nodes are enough for the question."""
     check_tables(graph, tables)
-    require(nodes == () or are_nodes(graph, nodes), "nodes")
+    require(is_tuple(nodes, 0, 0) or are_nodes(graph, nodes), "nodes")
     check_variable_value(graph, variable, value)
     return are_enough(graph, tables, nodes, variable, value)
 

@@ -1,6 +1,6 @@
 """Messages in a junction tree with tables that change, which arrive late, twice, in another sequence, or never."""
 
-from tabletalk.checks import is_integer, is_tuple, require
+from tabletalk.checks import is_integer, is_tuple, is_word, require
 from tabletalk.errors import NotPossible, TooLarge
 from tabletalk.graphs import all_nodes, are_neighbours, check_tree, is_node, neighbours
 from tabletalk.messages import believed, directions, required
@@ -8,6 +8,7 @@ from tabletalk.rounds import computed
 from tabletalk.solutions import are_tables
 from tabletalk.tables import MOST_TABLE_COST, is_row
 
+WORDS = ("set", "remove", "deliver", "double", "lose", "resend", "settle")
 MOST_ACTIONS = 20
 MOST_ON_THE_WAY = 40
 
@@ -27,7 +28,7 @@ def tables_behind(graph, tables, actions):
 def on_the_way(graph, tables, actions):
     """Triples of the sender, the receiver and the number of each message that is on the way behind the actions."""
     traffic, _ = performed(graph, tables, actions)
-    return tuple([traffic.pairs[at] + (number,) for at, _, number in traffic.way])
+    return traffic.numbered_way()
 
 
 def effects(graph, tables, actions):
@@ -39,13 +40,13 @@ def effects(graph, tables, actions):
 def is_settled(graph, tables, actions):
     """True if the tables are settled behind the actions."""
     traffic, _ = performed(graph, tables, actions)
-    return traffic.unsettled() == []
+    return not traffic.unsettled()
 
 
 def beliefs(graph, tables, actions):
     """The beliefs of the nodes behind the actions."""
     traffic, _ = performed(graph, tables, actions)
-    return tuple([believed(graph, traffic.tables, traffic.kept, node) for node in all_nodes(graph)])
+    return tuple([traffic.belief_of(node) for node in all_nodes(graph)])
 
 
 def kept(graph, tables, actions):
@@ -59,8 +60,13 @@ def performed(graph, tables, actions):
     check_tree(graph)
     require(are_tables(graph, tables), "tables")
     require(are_actions(graph, actions), "actions")
-    traffic = Traffic(graph, tables)
+    traffic = first_traffic(graph, tables)
     return traffic, tuple([traffic.act(action) for action in actions])
+
+
+def first_traffic(graph, tables):
+    """The traffic at the beginning, where the computed messages are kept and nothing is on the way."""
+    return Traffic(graph, tables, computed(graph, tables))
 
 
 def are_actions(graph, value):
@@ -70,7 +76,7 @@ def are_actions(graph, value):
 
 def fits_action(graph, value):
     """What is_action returns, without checks."""
-    if not is_tuple(value, 1, 4):
+    if not is_tuple(value, 1, 4) or not is_word(value[0], WORDS):
         return False
     word, rest = value[0], value[1:]
     if word == "set":
@@ -81,7 +87,7 @@ def fits_action(graph, value):
         return len(rest) == 1 and is_integer(rest[0], 0, MOST_ON_THE_WAY - 1)
     if word == "resend":
         return len(rest) == 2 and all([is_node(graph, node) for node in rest])
-    return word == "settle" and rest == ()
+    return rest == ()
 
 
 def is_place(graph, value):
@@ -92,17 +98,25 @@ def is_place(graph, value):
 class Traffic:
     """The tables of a junction tree, and along each direction what is kept, what was sent last, and the numbers."""
 
-    def __init__(self, graph, tables):
+    def __init__(self, graph, tables, messages):
         self.graph = graph
         self.pairs = directions(graph)
         self.tables = list(tables)
-        messages = computed(graph, tables)
         self.kept = list(messages)
         self.kept_numbers = [0 for _ in messages]
         self.last = list(messages)
         self.last_numbers = [0 for _ in messages]
         # What is on the way: triples of the index of a direction, a message and its number.
         self.way = []
+
+    def copied(self):
+        """The same traffic once more; what is done to the one does not change the other."""
+        other = Traffic(self.graph, self.tables, self.kept)
+        other.kept_numbers = list(self.kept_numbers)
+        other.last = list(self.last)
+        other.last_numbers = list(self.last_numbers)
+        other.way = list(self.way)
+        return other
 
     def act(self, action):
         """Performs an action for the graph, and returns its effect."""
@@ -187,6 +201,14 @@ class Traffic:
         if len(self.way) == MOST_ON_THE_WAY:
             raise TooLarge("messages")
         self.way.append((at, self.last[at], self.last_numbers[at]))
+
+    def numbered_way(self):
+        """Triples of the sender, the receiver and the number of each message that is on the way, in order."""
+        return tuple([self.pairs[at] + (number,) for at, _, number in self.way])
+
+    def belief_of(self, node):
+        """The belief of the node, by the messages that are kept."""
+        return believed(self.graph, self.tables, self.kept, node)
 
     def unsettled(self):
         """The indexes of the directions along which the number that is kept is not that of the message sent last."""

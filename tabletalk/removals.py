@@ -1,6 +1,6 @@
 """Removals of nodes, which show whether some set of edges makes a junction tree of some scopes."""
 
-from tabletalk.checks import is_integer, is_tuple, require
+from tabletalk.checks import is_integer, is_tuple, is_word, require
 from tabletalk.solutions import are_scopes
 
 
@@ -21,7 +21,7 @@ def edge_evidence(scopes):
 def accepts_removal(scopes, value):
     """True if the value is evidence of either word about the scopes."""
     require(are_scopes(scopes), "scopes")
-    if not is_tuple(value, 2, 2):
+    if not is_tuple(value, 2, 2) or not is_word(value[0], ("edges", "stuck")):
         return False
     word, removal = value
     left = remaining(scopes, removal)
@@ -29,7 +29,7 @@ def accepts_removal(scopes, value):
         return False
     if word == "edges":
         return len(left) == 1
-    return word == "stuck" and len(left) > 1 and going(scopes, left) == []
+    return len(left) > 1 and going(scopes, left) == []
 
 
 def remaining(scopes, removal):

@@ -1,6 +1,6 @@
 """Verdicts on questions, trees of cases, and evidence for verdicts with its judge."""
 
-from tabletalk.checks import is_tuple
+from tabletalk.checks import is_tuple, is_word
 from tabletalk.graphs import all_nodes, is_node
 from tabletalk.joins import is_some_of
 from tabletalk.questions import check_question, divided
@@ -32,12 +32,12 @@ def verdict_evidence(graph, tables, variable, value):
 def accepts_verdict(graph, tables, variable, value, evidence):
     """True if the last argument is evidence for the verdict on the question."""
     check_question(graph, tables, variable, value)
-    if not is_told(evidence):
+    if not is_told(evidence, ("never", "always", "sometimes")):
         return False
     word, first, rest = evidence[0], evidence[1], evidence[2:]
     if word == "never":
         return rest == () and accepts_tree(graph, tables, {variable: value}, first)
-    if word not in ("always", "sometimes") or rest == () or not is_solution(graph, tables, first):
+    if rest == () or not is_solution(graph, tables, first):
         return False
     at = all_variables(graph).index(variable)
     if first[at] != value:
@@ -47,9 +47,9 @@ def accepts_verdict(graph, tables, variable, value, evidence):
     return is_solution(graph, tables, rest[0]) and rest[0][at] != value
 
 
-def is_told(value):
-    """True if the value is a tuple of a word and one or two items more, as evidence and trees of cases are."""
-    return is_tuple(value, 2, 3) and isinstance(value[0], str)
+def is_told(value, words):
+    """True if the value is a tuple of one of these words and one or two items more."""
+    return is_tuple(value, 2, 3) and is_word(value[0], words)
 
 
 def other_values(graph, value):
@@ -83,13 +83,13 @@ def excludes(graph, tables, known, node):
 
 def accepts_tree(graph, tables, known, tree):
     """True if the value is a tree of cases for the known values."""
-    if not is_told(tree):
+    if not is_told(tree, ("no", "by")):
         return False
     word, at, rest = tree[0], tree[1], tree[2:]
     if word == "no":
         return rest == () and is_node(graph, at) and excludes(graph, tables, known, at)
     # Each step makes another variable known, so a tree is not followed deeper than there are variables.
-    if word != "by" or rest == () or not is_some_of(all_variables(graph), (at,)) or at in known:
+    if rest == () or not is_some_of(all_variables(graph), (at,)) or at in known:
         return False
     return accepts_cases(graph, tables, known, at, list(range(graph[0])), rest[0])
 

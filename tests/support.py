@@ -7,8 +7,22 @@ import unittest
 
 from tabletalk.errors import BadValue, NotPossible
 
+
+class Strange:
+    """A value that nothing can be compared with."""
+
+    def __eq__(self, other):
+        raise RuntimeError("nothing can be compared with this")
+
+    def __repr__(self):
+        return "Strange()"
+
+    __hash__ = None
+
+
 # Values of the wrong kind for each argument of the program that is a tuple or an integer.
-STRANGE = [None, "", "0", b"", 0.0, 2.0, True, False, [], {}, set(), object, (None,), ("0",), ([],), (0.0,), (True,)]
+STRANGE = [None, "", "0", b"", 0.0, 2.0, True, False, [], {}, set(), object, (None,), ("0",), ([],), (0.0,), (True,),
+           Strange(), (Strange(),), (Strange(), 0), (Strange(), 0, ())]
 
 GRAPH = (2, ((0,), (0, 1), (1,)), ((0, 1), (1, 2)))
 TABLES = ((((0,), 1), ((1,), 0)), (((0, 0), 0), ((0, 1), 2), ((1, 1), 5)), (((1,), 0),))

@@ -168,6 +168,44 @@ False
 >>> implied(graph, both, 1, 0), possible_values(graph, (tables[0], ()), 0)
 (((0, 0), (1, 0)), ())
 """,
+    "reading and writing": """
+>>> from tabletalk.reading import next_tokens, read_graph, read_tables
+>>> from tabletalk.writing import graph_text, tables_text
+>>> graph = read_graph("2: 0 1, 1; 0-1")
+>>> graph, read_tables(graph, "0 0 = 2, 1 1 = 5; 1 = 1"), read_tables(graph, ";")
+((2, ((0, 1), (1,)), ((0, 1),)), ((((0, 0), 2), ((1, 1), 5)), (((1,), 1),)), ((), ()))
+>>> graph_text((3, ((), (0, 2)), ())), tables_text(graph, ((((0, 1), 7),), ())), graph_text(graph)
+('3:, 0 2;', '0 1 = 7; ', '2: 0 1, 1; 0-1')
+>>> next_tokens("2: 0", "graph"), next_tokens("2:;", "graph")
+(['a number', '","', '";"'], ['a number', 'the end'])
+>>> next_tokens("", "tables"), next_tokens("0 = 1", "tables")
+(['a number', '";"', '"="', 'the end'], ['","', '";"', 'the end'])
+>>> from tabletalk.errors import TextError
+>>> try:
+...     read_graph("2: 1 0, 1; 0-1")
+... except TextError as error:
+...     error.column, error.words
+(6, 'variables ascend')
+""",
+    "network and journals": """
+>>> from tabletalk.journals import are_right, replayed
+>>> from tabletalk.network import Network
+>>> network = Network((2, ((0,), (0, 1), (1,)), ((0, 1), (1, 2))))
+>>> network.act(("set", 0, (0,), 1)), network.act(("set", 1, (0, 1), 2)), network.act(("set", 2, (1,), 0))
+(1, 0, 1)
+>>> network.on_the_way()
+((0, 1, 1), (2, 1, 1))
+>>> network.act(("deliver", 1)), network.on_the_way(), network.is_settled(), network.act(("settle",))
+(1, ((0, 1, 1), (1, 0, 1)), False, 3)
+>>> network.total(), network.belief(2)
+((1, 3), (((1,), 1, 3),))
+>>> network.undo(), network.on_the_way(), network.records()[3]
+(('settle',), ((0, 1, 1), (1, 0, 1)), (('deliver', 1), 1))
+>>> are_right((2, ((0,),), ()), ((("set", 0, (1,), 5), 0), (("settle",), 0)))
+True
+>>> replayed((2, ((0,),), ()), (("set", 0, (1,), 5),)).total()
+(1, 5)
+""",
 }
 
 

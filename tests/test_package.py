@@ -108,6 +108,14 @@ INTERFACE = {
         "needed": "graph tables variable value",
     },
     "scanning": {"scan": "text"},
+    "reading": {"next_tokens": "text kind", "read_graph": "text", "read_tables": "graph text"},
+    "writing": {"graph_text": "graph", "tables_text": "graph tables"},
+    "journals": {"replayed": "graph journal", "are_right": "graph records"},
+}
+# The methods of the class of the interface, with their arguments.
+NETWORK = {
+    "act": "command", "undo": "", "tables": "", "journal": "", "on_the_way": "", "is_settled": "", "belief": "node",
+    "total": "", "records": "", "twin": "",
 }
 LIBRARY = {"heapq", "math", "itertools", "collections"}
 
@@ -128,6 +136,19 @@ class InterfaceTest(unittest.TestCase):
                 function = getattr(module, word)
                 self.assertEqual(arguments.split(), list(inspect.signature(function).parameters), word)
                 self.assertEqual("tabletalk." + name, function.__module__, word)
+
+    def test_class_with_its_methods(self):
+        from tabletalk.network import Network
+        self.assertEqual("tabletalk.network", Network.__module__)
+        self.assertEqual(["graph"], list(inspect.signature(Network).parameters))
+        for name, arguments in NETWORK.items():
+            # Each method is defined in the class itself.
+            method = vars(Network)[name]
+            self.assertEqual(["self"] + arguments.split(), list(inspect.signature(method).parameters), name)
+
+    def test_all_modules(self):
+        listed = set(INTERFACE) | {"errors", "network", "checks", "__init__"}
+        self.assertEqual(listed, {path.stem for path in files()})
 
     def test_arguments_by_keyword(self):
         from tabletalk.joins import project

@@ -131,7 +131,7 @@ class AcceptsRemovalTest(Case):
     def test_any_value_at_all(self):
         for scopes in (ROW, TAIL, ((0,), (0,)), LARGE + ()):
             for value in WRONG_VALUES:
-                if scopes != LARGE or value != ("stuck", ()):
+                if scopes != LARGE or repr(value) != repr(("stuck", ())):
                     self.refuses(scopes, value)
         self.assertIs(True, accepts_removal(LARGE, ("stuck", ())))
 

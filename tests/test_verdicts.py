@@ -5,8 +5,8 @@ import itertools
 
 from tabletalk.solutions import variables
 from tabletalk.verdicts import accepts_verdict, verdict, verdict_evidence
-from tests.support import (GRAPH, LARGE, STRANGE, TABLES, WRONG_GRAPHS, WRONG_TABLES, Case, Numbers, full_tables,
-                           plain_solutions, samples)
+from tests.support import (GRAPH, LARGE, STRANGE, TABLES, WRONG_GRAPHS, WRONG_TABLES, Case, Numbers, Strange,
+                           full_tables, plain_solutions, samples)
 
 PAIR = (2, ((0, 1), (1,)), ((0, 1),))
 ROWS = ((((0, 0), 2), ((1, 1), 5)), (((1,), 1),))
@@ -20,15 +20,6 @@ NEVER = ("never", ("by", 1, (("no", 1), ("no", 0))))
 WRONG_VARIABLES = STRANGE + [2, 5, 6, -1, (0,), [0], 0.0, "0"]
 WRONG_VALUES = STRANGE + [2, 3, -1, (0,), [0], 1.0, "1"]
 WRONG = [("graph", WRONG_GRAPHS), ("tables", WRONG_TABLES), ("variable", WRONG_VARIABLES), ("value", WRONG_VALUES)]
-
-
-class Strange:
-    """A value that is not even equal to anything without an error."""
-
-    def __eq__(self, other):
-        raise RuntimeError("nothing to compare")
-
-    __hash__ = None
 
 
 # Values that are no evidence, and no tree of cases, for any question.
